@@ -1,0 +1,1 @@
+"""Freshbook: copies lent for a time, by clocks that go unlike."""
