@@ -23,6 +23,10 @@ class Thing:
     def come_up(self, clock, length, bound):
         self.quiet = quiet_until(clock, length, bound)
 
+    def go_down(self):
+        self.notes = {}
+        self.waiting = None
+
     def put_up(self, value):
         if self.waiting is not None:
             return False

@@ -1,4 +1,4 @@
-"""Those rules of LANGUAGE.md that a look at each of the package's files by itself can tell."""
+"""A part of the rules of LANGUAGE.md: those that a look at the package's files can tell easily."""
 
 import ast
 import builtins
@@ -25,9 +25,21 @@ WORDS = re.compile(
 OWN_METHODS = """append clear copy count endswith extend find get index insert isalnum isalpha isdigit islower isspace
     isupper items join keys ljust lower lstrip partition pop remove replace reverse rfind rjust rpartition rsplit rstrip
     setdefault split splitlines startswith strip update upper values zfill bit_length""".split()
-BUILTINS = """len range enumerate zip min max sum abs sorted reversed int str bool list tuple dict set frozenset isinstance
-    ord repr any all divmod Exception ValueError TypeError KeyError IndexError LookupError ZeroDivisionError
-    ArithmeticError OverflowError RuntimeError NotImplementedError AttributeError StopIteration""".split()
+BUILTINS = """len range enumerate zip min max sum abs sorted reversed int str bool list tuple dict set frozenset
+    isinstance ord repr any all divmod Exception ValueError TypeError KeyError IndexError LookupError
+    ZeroDivisionError ArithmeticError OverflowError RuntimeError NotImplementedError AttributeError
+    StopIteration""".split()
+KEYWORDS = {
+    "sorted": ("key", "reverse"),
+    "min": ("key", "default"),
+    "max": ("key", "default"),
+    "sum": ("start",),
+    "enumerate": ("start",),
+    "zip": ("strict",),
+}
+NOT_AS_VALUES = """items keys values pop update append clear extend insert remove reverse setdefault sort args encode
+    format""".split()
+WALKED = ("zip", "enumerate", "reversed", "range", "items", "keys", "values")
 
 
 def files():
@@ -38,6 +50,30 @@ def nodes():
     for path in files():
         for node in ast.walk(ast.parse(path.read_text("utf-8"))):
             yield f"{path.name}:{getattr(node, 'lineno', 0)}", node
+
+
+def module_tree(name):
+    return ast.parse((PACKAGE / (name.rpartition(".")[2] + ".py")).read_text("utf-8"))
+
+
+def defined_names(tree):
+    named = [part.name for part in tree.body if isinstance(part, (ast.FunctionDef, ast.ClassDef))]
+    return named + [name for part in tree.body if isinstance(part, ast.Assign) for name in bound_names(part.targets[0])]
+
+
+def drawn_from(tree):
+    return {node.module for node in ast.walk(tree) if isinstance(node, ast.ImportFrom)}
+
+
+def without_docstring(body):
+    first = body[0] if body else None
+    if isinstance(first, ast.Expr) and isinstance(first.value, ast.Constant) and isinstance(first.value.value, str):
+        return body[1:]
+    return body
+
+
+def top_nodes(part):
+    return part.targets if isinstance(part, ast.Assign) else [part]
 
 
 def bound_names(node):
@@ -77,31 +113,102 @@ class FormTest(unittest.TestCase):
         for place, node in nodes():
             self.assertIn(type(node).__name__, KINDS, place)
 
-    def test_imports_are_the_package_s_own(self):
+    def test_imports_are_from_the_file_that_defines_the_name(self):
         for place, node in nodes():
             if isinstance(node, ast.ImportFrom):
                 self.assertEqual(node.level, 0, place)
-                self.assertRegex(node.module, r"\Afreshbook\.[a-z_.]+\Z", place)
-                self.assertNotIn("*", [alias.name for alias in node.names], place)
+                self.assertRegex(node.module, r"\Afreshbook\.[a-z0-9_]+\Z", place)
+                defined = defined_names(module_tree(node.module))
+                for alias in node.names:
+                    self.assertIn(alias.name, defined, place)
+
+    def test_no_two_files_draw_from_one_another(self):
+        drawn = {f"freshbook.{path.stem}": drawn_from(ast.parse(path.read_text("utf-8"))) for path in files()}
+        done = set()
+        while len(done) < len(drawn):
+            free = {name for name in drawn if name not in done and done.issuperset(drawn[name])}
+            self.assertTrue(free, sorted(set(drawn) - done))
+            done |= free
+
+    def test_the_top_of_a_file(self):
+        for path in files():
+            bound = []
+            for part in without_docstring(ast.parse(path.read_text("utf-8")).body):
+                self.assertIsInstance(part, (ast.ImportFrom, ast.FunctionDef, ast.ClassDef, ast.Assign), path.name)
+                bound.extend(name for node in top_nodes(part) for name in bound_names(node))
+            self.assertEqual(len(bound), len(set(bound)), path.name)
 
     def test_functions(self):
         for place, node in nodes():
             if isinstance(node, ast.FunctionDef):
                 self.assertLessEqual(node.end_lineno - node.lineno + 1, 40, place)
-                self.assertEqual((node.decorator_list, node.returns), ([], None), place)
+                self.assertEqual(node.decorator_list, [], place)
             if isinstance(node, ast.arguments):
                 extra = (node.vararg, node.kwarg, node.kwonlyargs, node.posonlyargs)
                 self.assertEqual(extra, (None, None, [], []), place)
-            if isinstance(node, ast.arg):
-                self.assertIsNone(node.annotation, place)
 
     def test_classes(self):
         for place, node in nodes():
             if isinstance(node, ast.ClassDef):
                 self.assertLessEqual(len(node.bases), 1, place)
                 self.assertEqual((node.decorator_list, node.keywords), ([], []), place)
-                for part in node.body:
+                body = without_docstring(node.body)
+                for part in body:
                     self.assertIsInstance(part, (ast.FunctionDef, ast.Pass), place)
+                methods = [part.name for part in body if isinstance(part, ast.FunctionDef)]
+                self.assertEqual(len(methods), len(set(methods)), place)
+
+    def test_no_name_is_a_method_and_a_value(self):
+        methods = set()
+        given = set()
+        for place, node in nodes():
+            if isinstance(node, ast.ClassDef):
+                methods.update(part.name for part in node.body if isinstance(part, ast.FunctionDef))
+            if isinstance(node, ast.Attribute) and isinstance(node.ctx, ast.Store):
+                given.add(node.attr)
+        self.assertEqual(methods & given, set())
+        self.assertEqual(given & set(NOT_AS_VALUES), set())
+
+    def test_errors(self):
+        for place, node in nodes():
+            if isinstance(node, ast.ExceptHandler):
+                self.assertIsNotNone(node.type, place)
+                taken = node.type.elts if isinstance(node.type, ast.Tuple) else [node.type]
+                for name in taken:
+                    self.assertNotIn(name.id, ("Exception", "TypeError"), place)
+            if isinstance(node, ast.Raise):
+                self.assertIsInstance(node.exc, ast.Call, place)
+            if isinstance(node, ast.Try):
+                self.assertEqual(node.finalbody, [], place)
+
+    def test_is_stands_beside_none_true_and_false(self):
+        for place, node in nodes():
+            if isinstance(node, ast.Compare) and any(isinstance(sign, (ast.Is, ast.IsNot)) for sign in node.ops):
+                values = [part.value for part in [node.left] + node.comparators if isinstance(part, ast.Constant)]
+                self.assertTrue([value for value in values if value is None or isinstance(value, bool)], place)
+
+    def test_keywords(self):
+        for place, node in nodes():
+            if isinstance(node, ast.Call) and isinstance(node.func, ast.Name) and node.func.id in BUILTINS:
+                for keyword in node.keywords:
+                    self.assertIn(keyword.arg, KEYWORDS.get(node.func.id, ()), place)
+
+    def test_what_is_walked_on_the_spot_is_not_kept(self):
+        for place, node in nodes():
+            if isinstance(node, (ast.Assign, ast.Return)) and isinstance(node.value, ast.Call):
+                called = node.value.func
+                name = called.id if isinstance(called, ast.Name) else getattr(called, "attr", "")
+                self.assertNotIn(name, WALKED, place)
+
+    def test_numbers_and_texts(self):
+        for place, node in nodes():
+            if isinstance(node, ast.BinOp) and isinstance(node.op, ast.Pow):
+                self.assertIsInstance(node.right, ast.Constant, place)
+            if isinstance(node, ast.Constant) and isinstance(node.value, str):
+                self.assertNotIn("%", node.value, place)
+            if isinstance(node, ast.FormattedValue):
+                self.assertIsInstance(node.value, ast.Name, place)
+                self.assertIsNone(node.format_spec, place)
 
     def test_names_that_are_bound(self):
         for place, node in nodes():
@@ -121,10 +228,8 @@ class FormTest(unittest.TestCase):
 
     def test_statements_by_themselves_and_targets(self):
         for place, node in nodes():
-            if isinstance(node, ast.Module):
-                self.assertIsNotNone(ast.get_docstring(node), place)
-                for part in node.body[1:]:
-                    self.assertNotIsInstance(part, ast.Expr, place)
+            if isinstance(node, ast.Expr):
+                self.assertIsInstance(node.value, (ast.Call, ast.Constant), place)
             if isinstance(node, ast.Assign):
                 self.assertEqual(len(node.targets), 1, place)
             if isinstance(node, (ast.For, ast.While)):
